@@ -12,9 +12,13 @@ WORST = 6
 WAYS = 7
 OF = 8
 PLACE = 9
+WORTH = 10
 NEED = 11
 ORDER = 12
+TURNED = 13
+BOUND = 14
 GAIN = 15
+NECK = 16
 
 
 def count_plain(number):
@@ -55,7 +59,7 @@ def answer_change(line, number, given):
     return line.turn()
 
 
-def answer_question(line, number, given):
+def answer_of_ways(line, number, given):
     if number == BEST:
         return line.best()
     if number == WORST:
@@ -64,7 +68,27 @@ def answer_question(line, number, given):
         return line.ways()
     if number == OF:
         return line.of(given)
-    raise NotImplementedError(f"call {number} is not written yet")
+    return line.place(given)
+
+
+def answer_of_what_if(line, number, given):
+    if number == WORTH:
+        return line.worth()
+    if number == NEED:
+        return line.need(given[0], given[1])
+    if number == ORDER:
+        return line.order(given)
+    return line.turned()
+
+
+def answer_of_machines(line, number, given):
+    if number == BOUND:
+        return line.bound()
+    if number == GAIN:
+        return line.gain(given[0])
+    if number == NECK:
+        return line.neck()
+    return line.state()
 
 
 def answer_call(line, number, given):
@@ -74,7 +98,11 @@ def answer_call(line, number, given):
         return [NOT_BEGUN]
     if number <= TURN:
         return answer_change(line, number, given)
-    return answer_question(line, number, given)
+    if number <= PLACE:
+        return answer_of_ways(line, number, given)
+    if number <= TURNED:
+        return answer_of_what_if(line, number, given)
+    return answer_of_machines(line, number, given)
 
 
 def answers(calls):

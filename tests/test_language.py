@@ -115,6 +115,45 @@ class Code(unittest.TestCase):
             if isinstance(node, ast.Attribute) and node.attr in OF_PYTHON:
                 self.assertIn(node.attr, METHODS, where)
 
+    def test_no_local_is_called_like_a_class_or_an_import(self):
+        for path in files():
+            tree = ast.parse(path.read_text())
+            taken = {one.name for node in tree.body if isinstance(node, ast.ImportFrom) for one in node.names}
+            taken.update(node.name for node in tree.body if isinstance(node, ast.ClassDef))
+            for node in ast.walk(tree):
+                if isinstance(node, ast.Name) and isinstance(node.ctx, ast.Store):
+                    self.assertNotIn(node.id, taken, f"{path.name}:{node.lineno}")
+                if isinstance(node, ast.arg):
+                    self.assertNotIn(node.arg, taken, f"{path.name}:{node.lineno}")
+
+    def test_no_method_is_a_value_of_an_object_too(self):
+        methods, values = set(), set()
+        for where, node in self.nodes():
+            if isinstance(node, ast.ClassDef):
+                names = [one.name for one in node.body]
+                self.assertEqual(len(names), len(set(names)), where)
+                methods.update(names)
+            if isinstance(node, ast.Attribute) and isinstance(node.ctx, ast.Store):
+                values.add(node.attr)
+        self.assertEqual(methods & values, set())
+        self.assertEqual(methods & OF_PYTHON, {"__init__"})
+
+    def test_imports_draw_from_where_a_name_stands_and_never_round(self):
+        drawn = {}
+        for path in files():
+            nodes = [node for node in ast.parse(path.read_text()).body if isinstance(node, ast.ImportFrom)]
+            drawn[path.stem] = [node.module.split(".")[1] for node in nodes]
+            for node in nodes:
+                above = ast.parse((PACKAGE / (node.module.split(".")[1] + ".py")).read_text()).body
+                stand = [one.name for one in above if isinstance(one, (ast.FunctionDef, ast.ClassDef))]
+                stand += [one.targets[0].id for one in above if isinstance(one, ast.Assign)]
+                self.assertLessEqual({one.name for one in node.names}, set(stand), path.name)
+        # Again and again those are left out that draw from none that is left: all must go.
+        while drawn:
+            free = [name for name in drawn if not any(one in drawn for one in drawn[name])]
+            self.assertNotEqual(free, [], drawn)
+            drawn = {name: drawn[name] for name in drawn if name not in free}
+
     def test_imports_and_the_top_of_a_file(self):
         for path in files():
             tree = ast.parse(path.read_text())
